@@ -1,0 +1,1 @@
+"""Sayarrows: machines over endless letters, with sayings on their arrows."""
