@@ -27,18 +27,6 @@ def bits_of(text):
     return int("0" + text, 2)
 
 
-def text_of(bits, many):
-    """The text of so many signs that are the binary figures of a number."""
-    if many == 0:
-        return ""
-    return f"{bits:b}".zfill(many)
-
-
-def both_signs(one, other):
-    """Of two texts of one length the text with `1` where both have it."""
-    return text_of(bits_of(one) & bits_of(other), len(one))
-
-
 def alike_ahead(one, other):
     """How many signs two texts of one length have ahead of the first that differs."""
     unlike = bits_of(one) ^ bits_of(other)
@@ -80,6 +68,14 @@ def is_placeless(shape):
     return shape[0] == shape[3] and shape[2] == ""
 
 
+def frame_of(shapes):
+    """The numbers (low, behind) between which the middles of all these shapes lie."""
+    placed = [shape for shape in shapes if not is_placeless(shape)]
+    low = min([shape[1] for shape in placed], default=0)
+    behind = max([shape[1] + len(shape[2]) for shape in placed], default=0)
+    return low, behind
+
+
 def widened(shape, low, behind):
     """The signs of a shape from low on and below behind, no less than its own middle."""
     left, own_low, middle, right = shape
@@ -89,15 +85,23 @@ def widened(shape, low, behind):
     return stretch(left, low, own_low) + middle + stretch(right, own_behind, behind)
 
 
+def framed(shape, frame):
+    """A set as one number: its figures are a round of left, what lies within a frame, and a round of right."""
+    left, low, middle, right = shape
+    return bits_of(stretch(left, 0, ROUND) + widened(shape, frame[0], frame[1]) + stretch(right, 0, ROUND))
+
+
+def unframed(bits, frame):
+    """The shape of the set that is such a number in a frame."""
+    low, behind = frame
+    signs = f"{bits:b}".zfill(behind - low + 2 * ROUND)
+    return trimmed(signs[:ROUND], low, signs[ROUND:-ROUND], signs[-ROUND:])
+
+
 def meeting(one, other):
     """The shape of the letters in both of two sets."""
-    placed = [shape for shape in (one, other) if not is_placeless(shape)]
-    low = min([shape[1] for shape in placed], default=0)
-    behind = max([shape[1] + len(shape[2]) for shape in placed], default=0)
-    left = both_signs(stretch(one[0], 0, ROUND), stretch(other[0], 0, ROUND))
-    middle = both_signs(widened(one, low, behind), widened(other, low, behind))
-    right = both_signs(stretch(one[3], 0, ROUND), stretch(other[3], 0, ROUND))
-    return trimmed(left, low, middle, right)
+    frame = frame_of([one, other])
+    return unframed(framed(one, frame) & framed(other, frame), frame)
 
 
 def flipped(text):

@@ -1,5 +1,6 @@
 """What several tests need: things of all kinds, sayings by chance, and sets told letter by letter."""
 
+import itertools
 import random
 
 
@@ -118,3 +119,111 @@ def shape_by_search(has, far=200):
 def by_order(letters):
     """Letters in their order: a lesser size first, of one size the one above 0."""
     return sorted(letters, key=lambda n: (abs(n), n < 0))
+
+
+# With sayings, and shapes whose middles lie as near to 0, each letter leads as one of these.
+LETTERS = by_order(range(-170, 171))
+
+
+def random_guard(chance, tuples=4):
+    """A guard: a saying, or the shape of one."""
+    saying = random_saying(chance, chance.randint(1, tuples))
+    return saying if chance.random() < 0.7 else shape_by_search(lambda letter: met(saying, letter))
+
+
+def random_parts(chance, many, arrows, tuples=4):
+    """What a machine of so many states and arrows is made of."""
+    ends = tuple(sorted(chance.sample(range(many), chance.randint(0, (many + 1) // 2))))
+    return many, ends, tuple((chance.randrange(many), random_guard(chance, tuples), chance.randrange(many))
+                             for _ in range(arrows))
+
+
+def fitting(guard, letter):
+    """Whether a letter fits a guard, straight by the words of the document."""
+    return told(guard, letter) if len(guard) == 4 else met(guard, letter)
+
+
+def led(arrows, states, letter):
+    """The states that a letter leads to from some, a rising tuple."""
+    return tuple(sorted({to for state, guard, to in arrows if state in states and fitting(guard, letter)}))
+
+
+def led_by(arrows, states, word):
+    for letter in word:
+        states = led(arrows, states, letter)
+    return states
+
+
+def taken(machine, word):
+    """Whether a machine takes a word, straight by the words of the document."""
+    return bool(set(led_by(machine.arrows, (0,), word)) & set(machine.ends))
+
+
+def machine_by_search(start, lead, is_end):
+    """What the sure machine of all that is come to from a start is made of, found letter by letter."""
+    found, rows = [start], []
+    while len(rows) < len(found):
+        row = [lead(found[len(rows)], letter) for letter in LETTERS]
+        for aim in row:
+            if aim not in found:
+                found.append(aim)
+        rows.append(dict(zip(LETTERS, [found.index(aim) for aim in row])))
+    arrows = []
+    for state, row in enumerate(rows):
+        for aim in sorted(set(row.values())):
+            arrows.append((state, shape_by_search(lambda n: row[reached(n)] == aim, 100), aim))
+    return len(found), tuple(at for at, thing in enumerate(found) if is_end(thing)), tuple(arrows)
+
+
+def reached(letter):
+    """A letter among LETTERS that leads as this one, by the same remainder by 60 where it is further off."""
+    if letter > 170:
+        return 110 + (letter - 110) % 60
+    if letter < -170:
+        return -169 + (letter + 169) % 60
+    return letter
+
+
+def sure_by_search(machine):
+    """What a machine's sure machine is made of, found letter by letter."""
+    return machine_by_search((0,), lambda states, letter: led(machine.arrows, states, letter),
+                             lambda states: bool(set(states) & set(machine.ends)))
+
+
+def least_by_search(machine):
+    """What the least machine of one that is sure and full is made of: classes are cut till none is any more."""
+    rows = [[led(machine.arrows, (state,), letter)[0] for letter in LETTERS] for state in range(machine.many)]
+    classes = [int(state in machine.ends) for state in range(machine.many)]
+    while True:
+        marks = [(classes[state], tuple(classes[aim] for aim in rows[state])) for state in range(machine.many)]
+        unlike = list(dict.fromkeys(marks))
+        if len(unlike) == len(set(classes)):
+            break
+        classes = [unlike.index(mark) for mark in marks]
+    one_of = {at: state for state, at in enumerate(classes)}
+    return machine_by_search(classes[0], lambda at, letter: classes[rows[one_of[at]][LETTERS.index(letter)]],
+                             lambda at: one_of[at] in machine.ends)
+
+
+def renumbered(chance, parts):
+    """What a machine of the same words is made of, its states numbered otherwise, its arrows in another order."""
+    many, ends, arrows = parts
+    names = [0] + chance.sample(range(1, many), many - 1)
+    moved = [(names[state], guard, names[to]) for state, guard, to in arrows]
+    return many, tuple(sorted(names[end] for end in ends)), tuple(chance.sample(moved, len(moved)))
+
+
+def last_but(many, guard=("from", 0)):
+    """What a machine of the words is made of whose letter at so many from the last on fits; it has 2 ** many sets."""
+    arrows = [(0, ("all",), 0), (0, guard, 1)] + [(state, ("all",), state + 1) for state in range(1, many)]
+    return many + 1, (many,), tuple(arrows)
+
+
+def counted(many):
+    """What a machine of the words is made of whose number of letters is divided by many without rest."""
+    return many, (0,), tuple((state, ("all",), (state + 1) % many) for state in range(many))
+
+
+def words_of(letters, most):
+    """All words of some letters, of at most so many."""
+    return [word for many in range(most + 1) for word in itertools.product(letters, repeat=many)]

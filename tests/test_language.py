@@ -195,6 +195,36 @@ class Language(unittest.TestCase):
             if isinstance(node.func, ast.Attribute):
                 self.assertIn(node.func.attr, METHODS | own, (name, node.lineno))
 
+        self.none("L25", [(name, node.lineno) for name, node in self.each_node(ast.Attribute) if node.attr == "sort"])
+
+    def test_l23_iterated_at_once(self):
+        lazy = {"zip", "enumerate", "reversed", "range"}
+        views = {"items", "keys", "values"}
+        for name, node in self.each_node(ast.Assign, ast.Return):
+            call = node.value
+            if isinstance(call, ast.Call) and isinstance(call.func, ast.Name):
+                self.assertNotIn(call.func.id, lazy, (name, node.lineno))
+            if isinstance(call, ast.Call) and isinstance(call.func, ast.Attribute):
+                self.assertNotIn(call.func.attr, views, (name, node.lineno))
+
+    def test_l24_sets_stand_in_sorted_or_len_alone(self):
+        inside = [id(part) for _, node in self.each_node(ast.Call)
+                  if isinstance(node.func, ast.Name) and node.func.id in ("sorted", "len") for part in node.args]
+        for name, node in self.each_node(ast.Set, ast.SetComp, ast.Call):
+            if not isinstance(node, ast.Call) or isinstance(node.func, ast.Name) and node.func.id == "set":
+                self.assertIn(id(node), inside, (name, node.lineno))
+
+    def test_l7_l28_what_classes_tell_of_themselves(self):
+        for name, node in self.each_node(ast.FunctionDef):
+            if node.name in ("__eq__", "__len__", "__repr__", "__str__"):
+                *_, last = node.body
+                self.assertEqual(len(node.body), 2, (name, node.lineno))
+                self.assertIsInstance(last, ast.Return, (name, node.lineno))
+            if node.name == "__len__":
+                self.assertEqual(last.value.func.id, "len", (name, node.lineno))
+            if node.name in ("__repr__", "__str__"):
+                self.assertIsInstance(last.value, ast.JoinedStr, (name, node.lineno))
+
     def test_l27_strings(self):
         for name, node in self.each_node(ast.Constant):
             if isinstance(node.value, str):
