@@ -187,6 +187,14 @@ class Joins(unittest.TestCase):
         self.assertEqual(again_of(crowd), least_of(BIGS))
         self.assertEqual(backward_of(crowd), least_of(BIGS))
 
+    def test_a_machine_that_may_be_begun_again_and_again(self):
+        # Each place where it was begun is another state of forty, though all of them take the same.
+        chain = Machine(40, tuple(range(40)), tuple((state, ALL, min(state + 1, 39)) for state in range(40)))
+        self.assertEqual(least_of(chain), TAKES_ALL)
+        ends_even = Machine(2, (1,), ((0, ALL, 0), (0, EVEN, 1)))
+        self.assertEqual(behind_of(ends_even, chain), behind_of(ends_even, TAKES_ALL))
+        self.assertEqual(again_of(both_of(chain, ends_even)), again_of(ends_even))
+
     def test_forty_states(self):
         self.assertEqual(both_of(Machine(*counted(8)), Machine(*counted(5))), least_of(Machine(*counted(40))))
         self.assertEqual(other_of(Machine(*counted(40))).ends, tuple(range(1, 40)))

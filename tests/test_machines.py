@@ -224,6 +224,11 @@ class Words(unittest.TestCase):
         self.assertEqual(come_to(machine, (3, 3)), ())
         self.assertEqual(come_to(machine, (4, 4, 4)), ())
 
+    def test_they_rise(self):
+        aims = (32, 8, 39, 1, 16, 24, 9)
+        machine = Machine(40, (), tuple((0, ALL, to) for to in aims))
+        self.assertEqual(come_to(machine, (0,)), (1, 8, 9, 16, 24, 32, 39))
+
     def test_one_end_among_them_is_enough(self):
         machine = Machine(3, (2,), ((0, ALL, 0), (0, EVEN, 1), (0, FROM_3, 2)))
         self.assertEqual(come_to(machine, (4,)), (0, 1, 2))
