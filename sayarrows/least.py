@@ -1,7 +1,7 @@
 """Machines made sure and full, and the least ones of those that take the same words."""
 
 from sayarrows.machines import ask_machine
-from sayarrows.tables import least_table_of, letters_of, machine_of, sure_table
+from sayarrows.tables import least_machine, letters_of, machine_of, sure_table
 
 
 def sure_of(machine):
@@ -14,5 +14,4 @@ def sure_of(machine):
 def least_of(machine):
     """The sure and full machine of the fewest states that takes the same words."""
     ask_machine(machine)
-    letters = letters_of([machine])
-    return machine_of(least_table_of(machine, letters), letters)
+    return least_machine(machine)

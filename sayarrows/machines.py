@@ -17,11 +17,16 @@ def is_state(thing, many):
     return is_whole_within(thing, 0, many - 1)
 
 
-def are_ends(thing, many):
+def is_rising(parts):
+    """Whether each part of a tuple is less than the next one."""
+    return all([part < after for part, after in zip(parts, parts[1:])])
+
+
+def are_states(thing, many):
     """Whether a thing is a rising tuple of states."""
     if not isinstance(thing, tuple) or not all([is_state(part, many) for part in thing]):
         return False
-    return all([state < after for state, after in zip(thing, thing[1:])])
+    return is_rising(thing)
 
 
 def is_arrow(thing, many):
@@ -35,7 +40,7 @@ def ask_parts(many, ends, arrows):
     """Refuse what no machine can be made of."""
     if not is_whole_within(many, 1, MOST_STATES):
         raise BadMachine(AT_MANY)
-    if not are_ends(ends, many):
+    if not are_states(ends, many):
         raise BadMachine(AT_ENDS)
     if not isinstance(arrows, tuple):
         raise BadMachine(0)

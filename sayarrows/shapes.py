@@ -98,8 +98,18 @@ def unframed(bits, frame):
     return trimmed(signs[:ROUND], low, signs[ROUND:-ROUND], signs[-ROUND:])
 
 
+def only(letter):
+    """The shape of one letter alone."""
+    return ("0", letter, "1", "0")
+
+
 def meeting(one, other):
     """The shape of the letters in both of two sets."""
+    # Sets that need no reckoning are met often.
+    if one == EMPTY or other == EVERY:
+        return one
+    if other == EMPTY or one == EVERY:
+        return other
     frame = frame_of([one, other])
     return unframed(framed(one, frame) & framed(other, frame), frame)
 

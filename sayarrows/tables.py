@@ -12,6 +12,15 @@ from sayarrows.sayings import letter_key
 from sayarrows.shapes import EVERY, frame_of, framed, least_in, unframed
 
 
+class Net:
+    """What is gone through like a machine, however many states it has; it is told to nobody."""
+
+    def __init__(self, ends, ways):
+        self.many = len(ways)
+        self.ends = ends
+        self.ways = ways
+
+
 def leads_of(machine, frame):
     """For each two states (from, to) with a way between them the letters that lead so."""
     leads = {}
@@ -34,6 +43,12 @@ def letters_of(machines):
     frame = frame_of([shape for machine in machines for leaving in machine.ways for shape, to in leaving])
     sides = {side: True for machine in machines for side in leads_of(machine, frame).values()}
     return frame, pieces_of(sides, frame)
+
+
+def first_letters_of(letters):
+    """The least letter of each piece, in the order of the pieces."""
+    frame, pieces = letters
+    return [least_in(unframed(piece, frame)) for piece in pieces]
 
 
 def mask_of(states):
@@ -87,6 +102,38 @@ def walked(start, step):
                 found.append(aim)
         rows.append([places[aim] for aim in aims])
     return found, rows
+
+
+def word_back(origins, at):
+    """The word that was gone to a place, by the place ahead of each one and the letter from there."""
+    letters = []
+    while at > 0:
+        at, letter = origins[at]
+        letters.append(letter)
+    return tuple(letters[::-1])
+
+
+def sought(start, step, is_sought):
+    """All that is come to from a start, and the least word to one that is sought, None where none is.
+
+    A step tells, of what is come to, tuples (letter, aim) in the order of the letters. Where one is sought
+    nothing behind it is gone through.
+    """
+    places = {start: 0}
+    found = [start]
+    origins = [(0, 0)]
+    at = 0
+    while at < len(found):
+        if is_sought(found[at]):
+            return found, word_back(origins, at)
+        ways = step(found[at])
+        for letter, aim in ways:
+            if aim not in places:
+                places[aim] = len(found)
+                found.append(aim)
+                origins.append((at, letter))
+        at += 1
+    return found, None
 
 
 def sure_table(machine, letters):
@@ -177,3 +224,9 @@ def machine_of(table, letters):
         raise TooMany(len(rows), MOST_STATES)
     arrows = [arrow for state, row in enumerate(rows) for arrow in arrows_from(state, row, letters)]
     return Machine(len(rows), tuple([state for state, is_end in enumerate(ends) if is_end]), tuple(arrows))
+
+
+def least_machine(machine):
+    """The least machine of a machine or a net; refused where it has too many states."""
+    letters = letters_of([machine])
+    return machine_of(least_table_of(machine, letters), letters)

@@ -171,7 +171,7 @@ def machine_by_search(start, lead, is_end):
     arrows = []
     for state, row in enumerate(rows):
         for aim in sorted(set(row.values())):
-            arrows.append((state, shape_by_search(lambda n: row[reached(n)] == aim, 100), aim))
+            arrows.append((state, shape_by_search(lambda n: row[reached(n)] == aim, 108), aim))
     return len(found), tuple(at for at, thing in enumerate(found) if is_end(thing)), tuple(arrows)
 
 
@@ -227,3 +227,75 @@ def counted(many):
 def words_of(letters, most):
     """All words of some letters, of at most so many."""
     return [word for many in range(most + 1) for word in itertools.product(letters, repeat=many)]
+
+
+def paths(thing, ahead=()):
+    """The way to each part of a thing of tuples, at any depth, the thing itself too."""
+    yield ahead
+    if isinstance(thing, tuple):
+        for at, part in enumerate(thing):
+            yield from paths(part, ahead + (at,))
+
+
+def part_at(thing, path):
+    for at in path:
+        thing = thing[at]
+    return thing
+
+
+def with_part(thing, path, part):
+    """A thing of tuples with another part at one place."""
+    if not path:
+        return part
+    at = path[0]
+    return thing[:at] + (with_part(thing[at], path[1:], part),) + thing[at + 1:]
+
+
+def of_wrong_kinds(thing):
+    """The thing with one part, at any depth, made one of another kind, which is == to it wherever there is such a one."""
+    for path in paths(thing):
+        part = part_at(thing, path)
+        if isinstance(part, tuple):
+            others = [list(part), {at: one for at, one in enumerate(part)}, None, 0, "", (part,)]
+        elif type(part) is int:
+            others = [bool(part)] if part in (0, 1) else []
+            others += [None, str(part), (part,), [part]]
+        else:
+            others = [None, 0, (part,), [part], ""]
+        for other in others:
+            if path or not isinstance(other, tuple):
+                yield with_part(thing, path, other)
+
+
+def put_otherwise_anywhere(thing):
+    """The thing with one number less or greater, or one tuple with a part less, a part twice, or backward."""
+    for path in paths(thing):
+        part = part_at(thing, path)
+        if type(part) is int:
+            others = [part + 1, part - 1]
+        elif isinstance(part, tuple):
+            others = [part[:at] + part[at + 1:] for at in range(len(part))]
+            others += [part[:at + 1] + part[at:] for at in range(len(part))] + [part[::-1]]
+        else:
+            others = []
+        for other in others:
+            if other != part:
+                yield with_part(thing, path, other)
+
+
+def rises(parts):
+    """Whether each one is less than the next."""
+    return all(part < after for part, after in zip(parts, parts[1:]))
+
+
+def walk_by_search(start, lead, letters):
+    """All that is come to from a start, each with the least word that leads there, found letter by letter."""
+    words = {start: ()}
+    found = [start]
+    for thing in found:
+        for letter in letters:
+            aim = lead(thing, letter)
+            if aim not in words:
+                words[aim] = words[thing] + (letter,)
+                found.append(aim)
+    return words

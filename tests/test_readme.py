@@ -23,7 +23,7 @@ class Readme(unittest.TestCase):
             code = code.split(" = ")[-1].strip()
             self.assertEqual(eval(code, names), expected, row)
             looked_at += 1
-        self.assertEqual(looked_at, 18)
+        self.assertEqual(looked_at, 32)
 
 
 if __name__ == "__main__":
