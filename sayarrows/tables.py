@@ -119,19 +119,21 @@ def sought(start, step, is_sought):
     A step tells, of what is come to, tuples (letter, aim) in the order of the letters. Where one is sought
     nothing behind it is gone through.
     """
+    if is_sought(start):
+        return [start], ()
     places = {start: 0}
     found = [start]
     origins = [(0, 0)]
     at = 0
     while at < len(found):
-        if is_sought(found[at]):
-            return found, word_back(origins, at)
         ways = step(found[at])
         for letter, aim in ways:
             if aim not in places:
                 places[aim] = len(found)
                 found.append(aim)
                 origins.append((at, letter))
+                if is_sought(aim):
+                    return found, word_back(origins, places[aim])
         at += 1
     return found, None
 

@@ -1,7 +1,7 @@
 """What turners make of sets of words, and turners held against one another."""
 
 from sayarrows.machines import ask_machine, is_rising, is_state
-from sayarrows.sayings import is_whole, is_whole_within, letter_key
+from sayarrows.sayings import is_whole_within, letter_key
 from sayarrows.shapes import EMPTY, EVERY, joining, least_in, meeting, moved, only, outside
 from sayarrows.tables import Net, least_machine, least_table_of, letters_of, machine_of, sought, walked
 from sayarrows.turners import ask_turner, letters_into
@@ -157,7 +157,7 @@ def turns_compared(one, other):
 
 def is_state_or_nowhere(thing, many):
     """Whether a thing is one of so many states, or -1."""
-    return is_state(thing, many) or (is_whole(thing) and thing == NOWHERE)
+    return is_state(thing, many) or thing == NOWHERE
 
 
 def is_triple(thing, one, other):

@@ -14,16 +14,20 @@ class Readme(unittest.TestCase):
         block = re.sub(r"\n +#", "  #", block)
         names, looked_at = {}, 0
         for row in block.splitlines():
-            exec(row, names)
             code, _, answer = row.partition("  #")
             try:
                 expected = ast.literal_eval(answer.strip())
             except (SyntaxError, ValueError):
+                exec(row, names)
                 continue
-            code = code.split(" = ")[-1].strip()
-            self.assertEqual(eval(code, names), expected, row)
+            # Each line is gone through once: some of them are deeds.
+            name, _, code = code.strip().rpartition(" = ")
+            told = eval(code, names)
+            if name:
+                names[name] = told
+            self.assertEqual(told, expected, row)
             looked_at += 1
-        self.assertEqual(looked_at, 32)
+        self.assertEqual(looked_at, 51)
 
 
 if __name__ == "__main__":
