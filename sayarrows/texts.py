@@ -211,22 +211,23 @@ def ask_text(thing):
         raise NoText(0)
 
 
+def read_whole(text, read):
+    """What a text of one line writes, by the function that reads it."""
+    ask_text(text)
+    found = read(text)
+    if found is None:
+        raise NoText(1)
+    return found
+
+
 def read_guard(text):
     """The guard that a text writes."""
-    ask_text(text)
-    guard = guard_in(text)
-    if guard is None:
-        raise NoText(1)
-    return guard
+    return read_whole(text, guard_in)
 
 
 def read_word(text):
     """The word that a text writes."""
-    ask_text(text)
-    word = word_in(text)
-    if word is None:
-        raise NoText(1)
-    return word
+    return read_whole(text, word_in)
 
 
 def read_machine(text):

@@ -48,13 +48,14 @@ def parting_words(machine):
     pairs = pairs_of(machine.many)
     words = {(state, other): () for state, other in pairs if (state in machine.ends) != (other in machine.ends)}
     waiting = {pair: pair_aims(rows[pair[0]], rows[pair[1]], firsts) for pair in pairs if pair not in words}
-    found = words
-    while found:
+    while True:
         # Longer words by one letter each time, so that no pair is given a longer word than it needs.
         found = parted_next(waiting, words)
-        words = {**words, **found}
-        waiting = {pair: waiting[pair] for pair in waiting if pair not in found}
-    return words
+        if not found:
+            return words
+        for pair in found:
+            words[pair] = found[pair]
+            del waiting[pair]
 
 
 def why_least(machine):

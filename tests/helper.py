@@ -299,3 +299,20 @@ def walk_by_search(start, lead, letters):
                 words[aim] = words[thing] + (letter,)
                 found.append(aim)
     return words
+
+
+class Equality:
+    """Looks at == and != and `in`, for tests of things that have them."""
+
+    def same(self, one, other):
+        self.assertIs(one == other, True)
+        self.assertIs(one != other, False)
+        self.assertIn(one, [None, other])
+        self.assertIn(one, (other,))
+
+    def unlike(self, one, other):
+        self.assertIs(one == other, False)
+        self.assertIs(other == one, False)
+        self.assertIs(one != other, True)
+        self.assertNotIn(one, [None, other])
+        self.assertNotIn(other, (one,))

@@ -8,7 +8,7 @@ import unittest
 from sayarrows.errors import BadMachine, NoMachine, NoWord, SayError
 from sayarrows.machines import Machine, come_to, lacking_at, takes, unsure_at
 from sayarrows.shapes import moved_on, shape_of
-from tests.helper import LETTERS, anything, led, led_by, nots, random_parts, taken
+from tests.helper import Equality, LETTERS, anything, led, led_by, nots, random_parts, taken
 
 ALL = ("all",)
 NONE = ("none",)
@@ -143,23 +143,10 @@ class Made(unittest.TestCase):
         self.bad(0, 2, (1,), None)
 
 
-class Shown(unittest.TestCase):
+class Shown(Equality, unittest.TestCase):
     def test_len_and_truth(self):
         self.assertEqual(len(ONE), 2)
         self.assertIs(bool(Machine(1, (), ())), True)
-
-    def same(self, one, other):
-        self.assertIs(one == other, True)
-        self.assertIs(one != other, False)
-        self.assertIn(one, [None, other])
-        self.assertIn(one, (other,))
-
-    def unlike(self, one, other):
-        self.assertIs(one == other, False)
-        self.assertIs(other == one, False)
-        self.assertIs(one != other, True)
-        self.assertNotIn(one, [None, other])
-        self.assertNotIn(other, (one,))
 
     def test_the_same_three(self):
         self.same(ONE, ONE)

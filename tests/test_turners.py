@@ -10,7 +10,7 @@ from sayarrows.errors import BadTurner, NoMachine, NoTurner, NoWord, SayError, T
 from sayarrows.machines import Machine, takes
 from sayarrows.shapes import is_shape, moved_on, shape_of
 from sayarrows.turners import Turner, turned_word, turner_of_both
-from tests.helper import LETTERS, anything, fitting, nots, random_saying, shape_by_search, words_of
+from tests.helper import Equality, LETTERS, anything, fitting, nots, random_saying, shape_by_search, words_of
 
 ALL = ("all",)
 NONE = ("none",)
@@ -199,19 +199,7 @@ class Made(unittest.TestCase):
         self.bad(0, 2, (1,), None)
 
 
-class Shown(unittest.TestCase):
-    def same(self, one, other):
-        self.assertIs(one == other, True)
-        self.assertIs(one != other, False)
-        self.assertIn(one, [None, other])
-
-    def unlike(self, one, other):
-        self.assertIs(one == other, False)
-        self.assertIs(other == one, False)
-        self.assertIs(one != other, True)
-        self.assertNotIn(one, [None, other])
-        self.assertNotIn(other, (one,))
-
+class Shown(Equality, unittest.TestCase):
     def test_len_and_truth(self):
         self.assertEqual(len(ONE), 2)
         self.assertIs(bool(Turner(1, (), ())), True)

@@ -14,7 +14,7 @@ from sayarrows.machines import Machine
 from sayarrows.shapes import shape_of
 from sayarrows.turners import Turner
 from sayarrows.yard import Yard
-from tests.helper import anything, last_but, nots
+from tests.helper import Equality, anything, last_but, nots
 from tests.test_least import TAKES_ALL, TAKES_NONE
 from tests.test_machines import random_machines
 
@@ -232,7 +232,7 @@ def asks_of_two(one, other):
     return asks_of(tuple(guards))
 
 
-class Told(unittest.TestCase):
+class Told(Equality, unittest.TestCase):
     def test_names(self):
         yard = Yard()
         self.assertEqual(yard.names(), [])
@@ -378,18 +378,6 @@ class Told(unittest.TestCase):
         self.assertEqual((len(yard), bool(yard), repr(yard)), (2, True, "Yard(2 machines)"))
         yard.put("b", EVENS)
         self.assertEqual(len(yard), 2)
-
-    def same(self, one, other):
-        self.assertIs(one == other, True)
-        self.assertIs(one != other, False)
-        self.assertIn(one, [None, other])
-
-    def unlike(self, one, other):
-        self.assertIs(one == other, False)
-        self.assertIs(other == one, False)
-        self.assertIs(one != other, True)
-        self.assertNotIn(one, [None, other])
-        self.assertNotIn(other, (one,))
 
     def test_equal(self):
         self.same(Yard(), Yard())
